@@ -146,7 +146,10 @@ func numbersUpTo(many int) []int {
 
 // roomy returns a copy of a row with spare capacity that is filled, so that writing to it shows.
 func roomy(row []int) []int {
-	room := append(slices.Clone(row), slices.Repeat([]int{77}, 12)...)
+	room := make([]int, len(row)+12)
+	for at := copy(room, row); at < len(room); at++ {
+		room[at] = 77
+	}
 	return room[:len(row)]
 }
 
@@ -161,8 +164,8 @@ func checkApart(t *testing.T, result, argument, before []int) {
 		t.Errorf("argument %v became %v", before, argument)
 	}
 	for _, number := range argument[len(argument):cap(argument)] {
-		if number == 99 {
-			t.Errorf("result shares the spare capacity of argument %v", before)
+		if number != 77 {
+			t.Errorf("the spare capacity of argument %v was written to, or a result shares it", before)
 		}
 	}
 }
@@ -175,4 +178,44 @@ func mustPut(t *testing.T, heads, order []int) []int {
 		t.Fatalf("PutInOrder(%v, %v) = %v, %v", heads, order, put, ok)
 	}
 	return put
+}
+
+// notWords returns numbers that are no words of a sentence with so many words.
+func notWords(words int) []int {
+	others := []int{0, -1, -2, -63, -64, -65, math.MinInt, words + 1, 10, 63, 64, 65, 66, 1000, math.MaxInt}
+	for word := words + 2; word <= 9; word++ {
+		others = append(others, word)
+	}
+	return others
+}
+
+// leadsTo goes up from a word, which is in a tree, and reports whether one comes to another one, or is there.
+func leadsTo(heads []int, from, to int) bool {
+	for from != 0 {
+		if from == to {
+			return true
+		}
+		from = heads[from-1]
+	}
+	return false
+}
+
+// isWithin reports whether each number of a row is in another one.
+func isWithin(row, other []int) bool {
+	for _, number := range row {
+		if !slices.Contains(other, number) {
+			return false
+		}
+	}
+	return true
+}
+
+// isApartFrom reports whether no number of a row is in another one.
+func isApartFrom(row, other []int) bool {
+	for _, number := range row {
+		if slices.Contains(other, number) {
+			return false
+		}
+	}
+	return true
 }
