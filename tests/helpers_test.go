@@ -86,7 +86,7 @@ func allOrders(many int) [][]int {
 	return orders
 }
 
-// bigTrees returns some trees of MaxWords words: the chain both ways, a star, and others with roots in many places.
+// bigTrees returns some trees of MaxWords words: the chain both ways, a star, others with roots in many places, and in the end one with as many crossings as may be, a flat one that is no chain and no star, and one whose root lies under an arc though no arcs cross.
 func bigTrees() [][]int {
 	return [][]int{
 		{0, 1, 2, 3, 4, 5, 6, 7},
@@ -96,6 +96,9 @@ func bigTrees() [][]int {
 		{8, 7, 1, 2, 3, 0, 6, 4},
 		{6, 1, 6, 1, 2, 7, 0, 7},
 		{0, 8, 7, 6, 1, 2, 5, 3},
+		{0, 5, 6, 7, 1, 2, 3, 4},
+		{2, 4, 2, 0, 6, 4, 8, 6},
+		{8, 4, 4, 0, 4, 4, 4, 4},
 	}
 }
 
