@@ -131,6 +131,11 @@ func notTrees() map[string][]int {
 	}
 }
 
+// notFlat returns trees that are not flat: with a root under an arc, with arcs that cross, and with both.
+func notFlat() [][]int {
+	return [][]int{{3, 0, 2}, {3, 4, 0, 3}, {3, 0, 2, 3, 2}, {0, 1, 1, 2, 3}, {8, 4, 4, 0, 4, 4, 4, 4}}
+}
+
 // reversed returns a row from the last one to the first one.
 func reversed(row []int) []int {
 	back := slices.Clone(row)
@@ -190,6 +195,11 @@ func notWords(words int) []int {
 		others = append(others, word)
 	}
 	return others
+}
+
+// notSentences returns numbers of words that no sentence has.
+func notSentences() []int {
+	return []int{0, -1, -2, -3, -64, math.MinInt, 9, 10, 63, 64, 65, 1000, math.MaxInt}
 }
 
 // leadsTo goes up from a word, which is in a tree, and reports whether one comes to another one, or is there.

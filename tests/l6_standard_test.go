@@ -1,7 +1,7 @@
 package tests
 
 import (
-	"math"
+	"iter"
 	"slices"
 	"strings"
 	"testing"
@@ -102,6 +102,26 @@ func textsOf(letters string, length int) []string {
 		texts = append(texts, string(text))
 	}
 	return texts
+}
+
+// withAnotherByte returns all texts that become other ones by one byte that is none of the letters, which is put between two bytes or in the place of one.
+func withAnotherByte(letters, moves string) iter.Seq[string] {
+	return func(yield func(string) bool) {
+		for letter := range 256 {
+			other := string([]byte{byte(letter)})
+			if strings.Contains(letters, other) {
+				continue
+			}
+			for at := range len(moves) + 1 {
+				if !yield(moves[:at] + other + moves[at:]) {
+					return
+				}
+				if at < len(moves) && !yield(moves[:at]+other+moves[at+1:]) {
+					return
+				}
+			}
+		}
+	}
 }
 
 // mustRun returns the heads that moves tell, where they tell a tree.
@@ -259,18 +279,8 @@ func TestP26RunStackOfMovesThatEndTooEarlyOrTooLate(t *testing.T) {
 }
 
 func TestP26RunStackOfOtherBytes(t *testing.T) {
-	letters := map[byte]bool{'S': true, 'L': true, 'R': true}
-	for letter := range 256 {
-		if letters[byte(letter)] {
-			continue
-		}
-		other := string([]byte{byte(letter)})
-		for at := range len("SSLSR") + 1 {
-			checkNoRun(t, 3, "SSLSR"[:at]+other+"SSLSR"[at:])
-			if at < len("SSLSR") {
-				checkNoRun(t, 3, "SSLSR"[:at]+other+"SSLSR"[at+1:])
-			}
-		}
+	for moves := range withAnotherByte("SLR", "SSLSR") {
+		checkNoRun(t, 3, moves)
 	}
 	for _, moves := range []string{"sslsr", "SSLŚR", "SSLSR\r\n", "ＳＳＬＳＲ", "\xffSSLSR", "SSDSR"} {
 		checkNoRun(t, 3, moves)
@@ -278,7 +288,7 @@ func TestP26RunStackOfOtherBytes(t *testing.T) {
 }
 
 func TestP26RunStackOfOtherNumbersOfWords(t *testing.T) {
-	for _, words := range []int{0, -1, -2, -3, -64, math.MinInt, 9, 10, 63, 64, 65, 1000, math.MaxInt} {
+	for _, words := range notSentences() {
 		for _, moves := range []string{"", "S", "SSR", "SSLSR", "SSSSSSSSSRRRRRRRR", "SSSSSSSSSSRRRRRRRRR", "x"} {
 			checkNoRun(t, words, moves)
 		}
@@ -292,18 +302,24 @@ func TestP26RunStackOfOtherNumbersOfWords(t *testing.T) {
 	}
 }
 
+// checkNewRun checks that the heads that a machine tells are new memory, so that a change of them changes no others.
+func checkNewRun(t *testing.T, run func(int, string) ([]int, bool), moves string, want []int) {
+	t.Helper()
+	first, _ := run(len(want), moves)
+	second, _ := run(len(want), moves)
+	whole := first[:cap(first)]
+	for at := range whole {
+		whole[at] = 99
+	}
+	if again, _ := run(len(want), moves); !slices.Equal(second, want) || !slices.Equal(again, want) {
+		t.Errorf("%q told %v, and after a change of another one %v and %v", moves, want, second, again)
+	}
+}
+
 func TestP26RunStackIsNew(t *testing.T) {
 	for _, moves := range []string{"S", "SSL", "SSLSR", "SSSLSRRSR", "SSSSSSSSRRRRRRR"} {
-		words := len(moves)/2 + 1
-		want, _ := toldFromTheEnd(words, moves)
-		first, second := mustRun(t, words, moves), mustRun(t, words, moves)
-		whole := first[:cap(first)]
-		for at := range whole {
-			whole[at] = 99
-		}
-		if again := mustRun(t, words, moves); !slices.Equal(second, want) || !slices.Equal(again, want) {
-			t.Errorf("RunStack(%d, %q) was %v, and after a change of another one %v and %v", words, moves, want, second, again)
-		}
+		want, _ := toldFromTheEnd(len(moves)/2+1, moves)
+		checkNewRun(t, impl.RunStack, moves, want)
 	}
 }
 
@@ -379,8 +395,7 @@ func TestP27MovesForOthers(t *testing.T) {
 			t.Errorf("%s: MovesFor(%v) = %q, %v", name, heads, moves, ok)
 		}
 	}
-	notFlat := [][]int{{3, 0, 2}, {3, 4, 0, 3}, {3, 0, 2, 3, 2}, {0, 1, 1, 2, 3}, {8, 4, 4, 0, 4, 4, 4, 4}}
-	for _, heads := range notFlat {
+	for _, heads := range notFlat() {
 		if moves, ok := impl.MovesFor(heads); ok || moves != "" {
 			t.Errorf("MovesFor(%v) = %q, %v, but it is not flat", heads, moves, ok)
 		}
